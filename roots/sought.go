@@ -2,6 +2,7 @@ package roots
 
 import (
 	"cmp"
+	"math/bits"
 
 	"gouache/api"
 	"gouache/wides"
@@ -41,13 +42,9 @@ func squarePlain(root uint64) (uint64, api.Errno) { return root * root, api.OK }
 
 // squareWide: ErrOver, if the square is no wide.
 func squareWide(root uint64) (api.Wide, api.Errno) {
-	w := api.Wide{Lo: root}
-	// wides takes factors of 63 bits and a sign, and a root may have 64: so its half is the factor, and the product counts twice.
-	p, _ := wides.Times(w, int64(root/2))
-	even, e := wides.Add(p, p)
-	if e != api.OK {
-		return api.Wide{}, e
+	hi, lo := bits.Mul64(root, root)
+	if hi>>63 != 0 {
+		return api.Wide{}, api.ErrOver
 	}
-	odd, _ := wides.Times(w, int64(root%2))
-	return wides.Add(even, odd)
+	return api.Wide{Hi: int64(hi), Lo: lo}, api.OK
 }
